@@ -644,18 +644,19 @@ func TestReplayInAndOutOfTurn(t *testing.T) {
 // A wrong record, or one out of turn, at each place of a list; of two of them the first one is told.
 func TestReplaySaysTheErrorOfTheFirst(t *testing.T) {
 	late := api.Rec{Who: 1, Seq: 40, C: asked("clear")}
-	for at := range 79 {
+	for at := range 80 {
 		for _, w := range wrongRecs(2, 1) {
-			l := inTurn(79)
-			l = slices.Insert(l, at, w.r)
+			l := slices.Insert(inTurn(79), at, w.r)
 			tryReplay(t, "wrong", l, api.Hall{}, w.want)
+			if at == 79 {
+				continue
+			}
 			l[79] = late
 			tryReplay(t, "wrong, then late", l, api.Hall{}, w.want)
 			l[79], l[at] = w.r, late
 			tryReplay(t, "late, then wrong", l, api.Hall{}, api.ErrLate)
 		}
-		l := inTurn(79)
-		tryReplay(t, "late", slices.Insert(l, at, late), api.Hall{}, api.ErrLate)
+		tryReplay(t, "late", slices.Insert(inTurn(79), at, late), api.Hall{}, api.ErrLate)
 	}
 }
 
